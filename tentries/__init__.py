@@ -1,0 +1,1 @@
+"""Ten tries, and nobody can try alone."""
