@@ -3,7 +3,7 @@
 What was asked is noted by the asker and is not in these lists.
 """
 
-from tentries.kept import MOST_TRIES, NOBODY, SOMEBODY, is_spoilt
+from tentries.kept import LET_GO, MOST_TRIES, NOBODY, SOMEBODY, is_spoilt
 from tentries.rows import P, comes_to
 
 SOMEBODY_THERE = -1
@@ -80,3 +80,42 @@ def try_one(kept, x):
     # Counted ahead of the answer, so that no answer is given uncounted.
     kept.tries += 1
     return [MOST_TRIES - kept.tries, comes_to(kept.row, x)]
+
+
+def free(kept, pass_told):
+    """1 if the pass is the counter's, and lets go who is there; else 0."""
+    if is_spoilt(kept):
+        return [SPOILT]
+    if kept.state == NOBODY:
+        return [NOBODY_THERE]
+    if kept.tries == MOST_TRIES:
+        return [NO_TRIES_LEFT]
+    if pass_told != kept.pass_told:
+        # A wrong pass is counted as a try is, so that nobody can go on guessing.
+        kept.tries += 1
+        return [0]
+    kept.state = LET_GO
+    return [1]
+
+
+def box(kept, mark, sealed):
+    """The box is this one from now on, whoever put it there."""
+    kept.mark = mark
+    kept.sealed = list(sealed)
+    return [0]
+
+
+def counter(kept, pass_told, tries, state, row):
+    """The counter is this one from now on, a spoilt one too."""
+    kept.pass_told = pass_told
+    kept.tries = tries
+    kept.state = state
+    kept.row = list(row)
+    return [0]
+
+
+def look(kept):
+    """All that is kept: the box, then the counter."""
+    told_box = [kept.mark] + kept.sealed
+    told_counter = [kept.pass_told, kept.tries, kept.state] + kept.row
+    return [0] + told_box + told_counter

@@ -22,7 +22,7 @@ class Kept:
 
 
 def is_spoilt(kept):
-    """Whether the counter holds what it could never hold by new and try."""
+    """Whether the counter holds what it could never hold by new, try and free."""
     if kept.state > LET_GO or kept.tries > MOST_TRIES:
         return True
     for number in kept.row:

@@ -8,6 +8,8 @@ SECRET = [(7 * i + 3) % 256 for i in range(64)]
 SCRIPT = [1234567890123456789, 2, 3, 5, 7, 11, 13, 17, 19, 23, P - 1]
 OTHER_SCRIPT = [P - 1 - i for i in range(11)]
 ROW_ASKED = [5] * 11
+NEW_BOX = (0, [0] * 64)
+NEW_COUNTER = (0, 0, 0, [0] * 11)
 
 
 def name(number):
@@ -28,6 +30,22 @@ def new(x, script):
 
 def try_one(x):
     return [4, x]
+
+
+def free(pass_told):
+    return [5, pass_told]
+
+
+def box(mark, sealed):
+    return [6, mark, len(sealed)] + sealed
+
+
+def counter(pass_told, tries, state, row):
+    return [7, pass_told, tries, state, len(row)] + row
+
+
+def look():
+    return [8]
 
 
 def flat(calls):
@@ -72,6 +90,18 @@ def xored(some, others):
     return [one ^ other for one, other in zip(some, others, strict=True)]
 
 
-def shown(kept):
-    """All that an object keeps, as copies."""
-    return (kept.mark, list(kept.sealed), kept.pass_told, kept.tries, kept.state, list(kept.row))
+def looked(kept_box, kept_counter):
+    """What look answers of a box (mark, sealed) and a counter (pass, tries, state, row)."""
+    mark, sealed = kept_box
+    pass_told, tries, state, row = kept_counter
+    return [0, mark] + sealed + [pass_told, tries, state] + row
+
+
+def sealed_box(y, secret):
+    """The box that seal leaves."""
+    return (told_mark(y), xored(secret, told_pad(y)))
+
+
+def begun_counter(x, row, tries=0, state=1):
+    """The counter that new leaves, with tries and a state of later."""
+    return (told_pass(told_row(row, x)), tries, state, row)

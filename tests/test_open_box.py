@@ -2,12 +2,8 @@
 
 import unittest
 
-from tentries.acts import open_box as do_open_box
-from tentries.acts import seal as do_seal
-from tentries.asking import Asker
-from tentries.kept import Kept
-
-from lines import P, SECRET, TOP, line, name, new, open_box, seal, shown, told_pass, try_one, SCRIPT
+from lines import (NEW_COUNTER, P, SCRIPT, SECRET, TOP, begun_counter, box, counter, free, line, look, looked, name,
+                   new, open_box, seal, sealed_box, told_pass, try_one)
 
 
 def opened(y, secret):
@@ -42,23 +38,21 @@ class OpenBoxTest(unittest.TestCase):
         self.assertEqual(line(open_box(11066951453180645397)), [[-22, 0]])
 
     def test_it_is_the_mark_that_counts(self):
-        kept = Kept()
-        kept.mark = 7806831264735756412
-        asker = Asker()
-        self.assertEqual(do_open_box(kept, asker, 1)[:10], [0, 2862933558814942250, 1, 1, 2, 3, 4, 5, 6, 7])
-        self.assertEqual((asker.how_many, asker.asked), (3, [3, 1, 2, 1, 4, 1]))
+        told = line(box(7806831264735756412, [0] * 64), open_box(1))[1]
+        self.assertEqual(told[:10], [0, 2862933558814942250, 1, 1, 2, 3, 4, 5, 6, 7])
+        self.assertEqual(told[66:], [3, 3, 1, 2, 1, 4, 1])
 
     def test_the_box_can_be_opened_again_and_again(self):
         told = line(seal(9, SECRET), open_box(9), open_box(P), open_box(8), open_box(9), open_box(9))
         self.assertEqual(told[1:], [opened(9, SECRET), [-22, 0], [-13, 1, 3, 8], opened(9, SECRET), opened(9, SECRET)])
 
     def test_open_changes_nothing(self):
-        kept = Kept()
-        do_seal(kept, Asker(), 9, SECRET)
-        before = shown(kept)
-        for y in (9, 8, P):
-            do_open_box(kept, Asker(), y)
-            self.assertEqual(shown(kept), before)
+        for kept_counter in (NEW_COUNTER, (7, 9, 2, SCRIPT), (TOP, 11, 3, [TOP] * 11)):
+            before = looked(sealed_box(9, SECRET), kept_counter)
+            told = line(
+                seal(9, SECRET), counter(*kept_counter), open_box(9), look(), open_box(8), look(), open_box(P), look())
+            self.assertEqual(told[3::2], [before] * 3)
+            self.assertEqual(told[2::2], [opened(9, SECRET), [-13, 1, 3, 8], [-22, 0]])
 
     def test_opening_is_not_a_try(self):
         told = line(new(3, SCRIPT), open_box(1), open_box(P), try_one(3))
@@ -80,13 +74,31 @@ class WholeWayTest(unittest.TestCase):
             self.assertEqual(told[12], opened(y, SECRET))
             self.assertEqual(told[13], [-28, 0])
 
+    def test_the_pass_lets_go(self):
+        for number in (0, 1234, 9999):
+            x = line(name(number))[0][1]
+            y = line(new(x, SCRIPT))[0][1]
+            begun = [new(x, SCRIPT), seal(y, SECRET), try_one(x), open_box(y)]
+            pass_told = line(*begun)[3][1]
+            told = line(*begun, free(pass_told), look(), new(x + 1, SCRIPT))
+            self.assertEqual(told[4], [1, 0])
+            self.assertEqual(told[5], looked(sealed_box(y, SECRET), begun_counter(x, SCRIPT, 1, 2)))
+            self.assertEqual(told[6][0], 0)
+
+    def test_no_tries_no_letting_go(self):
+        x = line(name(1234))[0][1]
+        y = line(new(x, SCRIPT))[0][1]
+        told = line(new(x, SCRIPT), seal(y, SECRET), *[try_one(x)] * 10, open_box(y), free(told_pass(y)))
+        self.assertEqual(told[12:], [opened(y, SECRET), [-28, 0]])
+
     def test_a_wrong_number_does_not_open(self):
         x = line(name(1234))[0][1]
         wrong_x = line(name(4321))[0][1]
         y = line(new(x, SCRIPT))[0][1]
         wrong_y = line(new(x, SCRIPT), try_one(wrong_x))[1][1]
-        told = line(new(x, SCRIPT), seal(y, SECRET), try_one(wrong_x), open_box(wrong_y))
-        self.assertEqual(told[3], [-13, 1, 3, wrong_y])
+        told = line(
+            new(x, SCRIPT), seal(y, SECRET), try_one(wrong_x), open_box(wrong_y), free(told_pass(wrong_y)), try_one(x))
+        self.assertEqual(told[3:], [[-13, 1, 3, wrong_y], [0, 0], [7, y, 0]])
 
 
 if __name__ == "__main__":

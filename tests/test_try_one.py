@@ -2,13 +2,8 @@
 
 import unittest
 
-from tentries.acts import new as do_new
-from tentries.acts import try_one as do_try_one
-from tentries.asking import Asker
-from tentries.kept import Kept
-
-from lines import (OTHER_SCRIPT, P, SCRIPT, SECRET, TOP, line, new, open_box, seal, shown, told_pass, told_row,
-                   try_one)
+from lines import (NEW_BOX, NEW_COUNTER, OTHER_SCRIPT, P, SCRIPT, SECRET, TOP, begun_counter, counter, free, line, look,
+                   looked, new, open_box, seal, sealed_box, told_pass, told_row, try_one)
 
 
 class TryOneTest(unittest.TestCase):
@@ -44,7 +39,8 @@ class TryOneTest(unittest.TestCase):
             self.assertEqual(told[1:], [[-22, 0], [-22, 0], [9, told_row(SCRIPT, 3), 0]])
 
     def test_a_new_object_has_nobody(self):
-        self.assertEqual(line(try_one(0), try_one(3), try_one(P - 1)), [[-2, 0]] * 3)
+        self.assertEqual(
+            line(try_one(0), try_one(3), try_one(P - 1), look()), [[-2, 0]] * 3 + [looked(NEW_BOX, NEW_COUNTER)])
 
     def test_a_try_on_nobody_is_not_counted(self):
         told = line(*[try_one(3)] * 11, new(3, SCRIPT), try_one(3))
@@ -55,36 +51,40 @@ class TryOneTest(unittest.TestCase):
         self.assertEqual(line(new(3, SCRIPT), *[try_one(3)] * 10, try_one(P))[11], [-22, 0])
 
     def test_nobody_is_told_ahead_of_no_tries(self):
-        kept = Kept()
-        kept.tries = 10
-        self.assertEqual(do_try_one(kept, 3), [-2])
+        for tries in (0, 9, 10):
+            there = (77, tries, 0, SCRIPT)
+            self.assertEqual(line(counter(*there), try_one(3), look())[1:], [[-2, 0], looked(NEW_BOX, there)])
+
+    def test_x_is_looked_at_ahead_of_nobody_and_no_tries(self):
+        for state in (0, 1, 2):
+            there = (77, 10, state, SCRIPT)
+            self.assertEqual(line(counter(*there), try_one(P), look())[1:], [[-22, 0], looked(NEW_BOX, there)])
 
     def test_who_was_let_go_is_tried_on(self):
-        kept = Kept()
-        do_new(kept, Asker(), 3, SCRIPT)
-        kept.state = 2
-        kept.tries = 8
-        self.assertEqual(do_try_one(kept, 3), [1, told_row(SCRIPT, 3)])
-        self.assertEqual(do_try_one(kept, 4), [0, told_row(SCRIPT, 4)])
-        self.assertEqual(do_try_one(kept, 3), [-28])
-        self.assertEqual(kept.state, 2)
+        there = begun_counter(3, SCRIPT, 8, 2)
+        told = line(
+            new(3, SCRIPT), *[try_one(5)] * 8, free(there[0]), look(), try_one(3), try_one(4), try_one(3), look())
+        self.assertEqual(told[9:], [
+            [1, 0], looked(NEW_BOX, there), [1, told_row(SCRIPT, 3), 0], [0, told_row(SCRIPT, 4), 0], [-28, 0],
+            looked(NEW_BOX, begun_counter(3, SCRIPT, 10, 2))])
+
+    def test_a_counter_put_there_is_tried(self):
+        for state in (1, 2):
+            for tries in range(10):
+                told = line(counter(77, tries, state, OTHER_SCRIPT), try_one(5), look())
+                self.assertEqual(told[1:], [
+                    [9 - tries, told_row(OTHER_SCRIPT, 5), 0], looked(NEW_BOX, (77, tries + 1, state, OTHER_SCRIPT))])
 
     def test_tries_alone_is_changed(self):
-        kept = Kept()
-        do_new(kept, Asker(), 3, SCRIPT)
-        y = told_row(SCRIPT, 3)
-        for tries in range(1, 11):
-            do_try_one(kept, 3 + tries)
-            self.assertEqual(shown(kept), (0, [0] * 64, told_pass(y), tries, 1, SCRIPT))
+        told = line(seal(9, SECRET), new(3, SCRIPT), *[call for x in range(10) for call in (try_one(x), look())])
+        for x in range(10):
+            after = looked(sealed_box(9, SECRET), begun_counter(3, SCRIPT, x + 1))
+            self.assertEqual(told[2 + 2 * x:4 + 2 * x], [[9 - x, told_row(SCRIPT, x), 0], after])
 
     def test_refusals_leave_the_object(self):
-        kept = Kept()
-        do_new(kept, Asker(), 3, SCRIPT)
-        kept.tries = 10
-        before = shown(kept)
-        self.assertEqual(do_try_one(kept, P), [-22])
-        self.assertEqual(do_try_one(kept, 3), [-28])
-        self.assertEqual(shown(kept), before)
+        told = line(seal(9, SECRET), new(3, SCRIPT), *[try_one(3)] * 10, try_one(P), look(), try_one(3), look())
+        after = looked(sealed_box(9, SECRET), begun_counter(3, SCRIPT, 10))
+        self.assertEqual(told[12:], [[-22, 0], after, [-28, 0], after])
 
     def test_tries_and_box_go_apart(self):
         told = line(new(3, SCRIPT), try_one(3), seal(9, SECRET), open_box(9), seal(P, SECRET), try_one(3))
